@@ -1,0 +1,1 @@
+"""Forms of words, made of them by rules."""
