@@ -22,6 +22,22 @@ def odd(number, slot, text):
     return [3, number, slot] + row(text)
 
 
+def form(number, slot):
+    return [4, number, slot]
+
+
+def found(text, k):
+    return [5, k] + row(text)
+
+
+def near(text, k):
+    return [6, k] + row(text)
+
+
+def check(text, start):
+    return [7, start] + row(text)
+
+
 def line(*calls):
     return [number for call in calls for number in call]
 
@@ -34,6 +50,36 @@ def ask(*calls):
     if told[1] != 0:
         raise AssertionError(f"begin answered {told[1]}")
     return told[3::2]
+
+
+def split(told):
+    """The answers, a list each, without the counts before them."""
+    parts = []
+    at = 0
+    while at < len(told):
+        parts.append(told[at + 1:at + 1 + told[at]])
+        if len(parts[-1]) != told[at] or told[at] == 0:
+            raise AssertionError(f"a count that is none: {told}")
+        at += 1 + told[at]
+    return parts
+
+
+def replies(*calls):
+    """What a new object answers to begin and these calls, a list each, begin's left out."""
+    told = split(answers(line(BEGIN, *calls)))
+    if len(told) != len(calls) + 1 or told[0] != [0]:
+        raise AssertionError(f"not an answer a call: {told}")
+    return told[1:]
+
+
+def last_replies(before, *calls):
+    """What is answered to these calls behind those before."""
+    return replies(*before, *calls)[len(before):]
+
+
+def one(text):
+    """The answer that tells a row of letters."""
+    return [1] + list(text.encode())
 
 
 def spell(number):

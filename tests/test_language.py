@@ -19,6 +19,7 @@ BUILTINS = set("""len range enumerate zip min max sum abs sorted reversed int st
 METHODS = set("""append clear copy count endswith extend find get index insert isalnum isalpha isdigit islower isspace
     isupper items join keys ljust lower lstrip partition pop remove replace reverse rfind rjust rpartition rsplit
     rstrip setdefault split splitlines startswith strip update upper values zfill bit_length""".split())
+CHANGES = set("append clear extend insert pop remove reverse setdefault update".split())
 DUNDERS = {"__init__", "__eq__", "__repr__", "__str__", "__len__"}
 WORDS_NOT_USED = re.compile(
     r"\b(type|typing|typing_extensions|enum|Enum|IntEnum|StrEnum|Flag|IntFlag|Generic|Protocol|ABC|ABCMeta|namedtuple"
@@ -35,6 +36,33 @@ NODES = set("""Module Expr Assign AugAssign If While For Return Break Continue P
 
 def nodes(*kinds):
     return [(name, node) for name, tree in TREES.items() for node in ast.walk(tree) if isinstance(node, kinds)]
+
+
+def drawn_file(node):
+    return node.module.split(".")[1] + ".py"
+
+
+def defined_at_top(name):
+    """The functions, classes and values of a file, as often as they are bound there."""
+    defined = []
+    for node in TREES[name].body:
+        if isinstance(node, (ast.FunctionDef, ast.ClassDef)):
+            defined.append(node.name)
+        if isinstance(node, ast.Assign):
+            defined.append(node.targets[0].id)
+    return defined
+
+
+def bound_within(def_node):
+    """Parameters and locals."""
+    stored = {node.id for node in ast.walk(def_node) if isinstance(node, ast.Name) and isinstance(node.ctx, ast.Store)}
+    return stored | {node.arg for node in ast.walk(def_node) if isinstance(node, ast.arg)}
+
+
+def root_name(node):
+    while isinstance(node, (ast.Attribute, ast.Subscript)):
+        node = node.value
+    return getattr(node, "id", None)
 
 
 class Files(unittest.TestCase):
@@ -70,12 +98,32 @@ class Code(unittest.TestCase):
 
     def test_imports_are_the_packages_own(self):
         for name, node in nodes(ast.ImportFrom):
+            self.assertIn(node, TREES[name].body, f"{name}: line {node.lineno}")
             self.assertEqual(node.level, 0)
             self.assertTrue(node.module.startswith("bentwords."), f"{name}: {node.module}")
-            defined = {getattr(top, "name", None) for top in TREES[node.module.split(".")[1] + ".py"].body}
             for drawn in node.names:
                 self.assertIsNone(drawn.asname)
-                self.assertIn(drawn.name, defined)
+                self.assertIn(drawn.name, defined_at_top(drawn_file(node)))
+
+    def test_no_two_files_draw_from_one_another(self):
+        drawn = {name: {drawn_file(node) for other, node in nodes(ast.ImportFrom) if other == name} for name in TREES}
+        self.assertEqual(drawn["__init__.py"], set())
+        while drawn:
+            free = {name for name, others in drawn.items() if not others & set(drawn)}
+            self.assertNotEqual(free, set(), f"these draw from one another: {sorted(drawn)}")
+            drawn = {name: others for name, others in drawn.items() if name not in free}
+
+    def test_names_of_the_top_are_bound_once_and_not_again_within(self):
+        for name, tree in TREES.items():
+            drawn = [alias.name for node in tree.body if isinstance(node, ast.ImportFrom) for alias in node.names]
+            at_top = defined_at_top(name) + drawn
+            self.assertEqual(len(at_top), len(set(at_top)), name)
+            classes = {node.name for node in tree.body if isinstance(node, ast.ClassDef)}
+            for def_node in [node for node in ast.walk(tree) if isinstance(node, ast.FunctionDef)]:
+                self.assertEqual(bound_within(def_node) & (classes | set(drawn)), set(), f"{name}: {def_node.name}")
+                for node in ast.walk(def_node):
+                    if isinstance(node, (ast.Attribute, ast.Subscript)) and isinstance(node.ctx, ast.Store):
+                        self.assertIn(root_name(node), bound_within(def_node), f"{name}: line {node.lineno}")
 
     def test_top_of_a_module(self):
         for name, tree in TREES.items():
@@ -83,7 +131,8 @@ class Code(unittest.TestCase):
             for node in tree.body[1:]:
                 self.assertIsInstance(node, (ast.ImportFrom, ast.FunctionDef, ast.ClassDef, ast.Assign), name)
                 if isinstance(node, ast.Assign):
-                    ast.literal_eval(node.value)
+                    # No list and no dict: what can't be changed needs no looking after.
+                    self.assertIn(ast.literal_eval(node.value).__class__, (int, str, bool, tuple), name)
 
     def test_names(self):
         for name, node in nodes(ast.Name):
@@ -104,6 +153,65 @@ class Code(unittest.TestCase):
             self.assertEqual(node.args.kwonlyargs + node.args.posonlyargs, [])
             self.assertTrue(node.name in DUNDERS or not node.name.startswith("_"), f"{name}: {node.name}")
 
+    def test_classes(self):
+        for name, node in nodes(ast.ClassDef):
+            self.assertIn(node, TREES[name].body)
+            self.assertEqual(node.decorator_list + node.keywords + node.bases, [])
+            methods = [part.name for part in node.body if isinstance(part, ast.FunctionDef)]
+            self.assertEqual(len(methods), len(set(methods)), f"{name}: {node.name}")
+            self.assertEqual(len(methods) + (ast.get_docstring(node) is not None), len(node.body), f"{name}: {node.name}")
+            for part in node.body[-len(methods):]:
+                # Of the methods with two underscores this one alone is needed, and it gives back nothing.
+                if part.name.startswith("__"):
+                    self.assertEqual(part.name, "__init__")
+                    self.assertFalse([inner for inner in ast.walk(part) if isinstance(inner, ast.Return)])
+
+    def test_no_sets_and_no_powers(self):
+        self.assertEqual(nodes(ast.Set, ast.Pow), [])
+        for name, node in nodes(ast.Name):
+            self.assertNotIn(node.id, ("set", "frozenset"), f"{name}: line {node.lineno}")
+
+    def test_comprehensions(self):
+        for name, node in nodes(ast.ListComp):
+            self.assertEqual(len(node.generators), 1, f"{name}: line {node.lineno}")
+            self.assertLessEqual(len(node.generators[0].ifs), 1, f"{name}: line {node.lineno}")
+
+    def test_texts(self):
+        for name, node in nodes(ast.Constant):
+            if isinstance(node.value, str):
+                self.assertRegex(node.value, r"^[ -$&-~\n]*$", f"{name}: line {node.lineno}")
+
+    def test_what_is_walked_at_once(self):
+        walked = ("zip", "enumerate", "reversed", "range")
+        for name, node in nodes(ast.Call):
+            called = node.func.id if isinstance(node.func, ast.Name) else node.func.attr
+            self.assertNotIn(called, ("items", "keys", "values"), f"{name}: line {node.lineno}")
+            self.assertEqual(node.keywords, [], f"{name}: line {node.lineno}")
+        for name, tree in TREES.items():
+            on_the_spot = [node.iter for node in ast.walk(tree) if isinstance(node, (ast.For, ast.comprehension))]
+            for node in ast.walk(tree):
+                if isinstance(node, ast.Call) and isinstance(node.func, ast.Name) and node.func.id in walked:
+                    self.assertIn(node, on_the_spot, f"{name}: line {node.lineno}")
+
+    def test_what_is_walked_is_not_changed(self):
+        for name, node in nodes(ast.For):
+            walked = {ast.unparse(part) for part in ast.walk(node.iter) if isinstance(part, (ast.Name, ast.Attribute))}
+            for inner in [part for step in node.body for part in ast.walk(step)]:
+                if isinstance(inner, ast.Call) and isinstance(inner.func, ast.Attribute) and inner.func.attr in CHANGES:
+                    self.assertNotIn(ast.unparse(inner.func.value), walked, f"{name}: line {inner.lineno}")
+                if isinstance(inner, ast.Subscript) and isinstance(inner.ctx, ast.Store):
+                    self.assertNotIn(ast.unparse(inner.value), walked, f"{name}: line {inner.lineno}")
+
+    def test_methods_and_pythons_own_are_called_where_they_stand(self):
+        methods = {part.name for name, node in nodes(ast.ClassDef) for part in node.body if isinstance(part, ast.FunctionDef)}
+        for name, tree in TREES.items():
+            called = [node.func for node in ast.walk(tree) if isinstance(node, ast.Call)]
+            for node in ast.walk(tree):
+                if isinstance(node, ast.Attribute) and node.attr in METHODS | methods:
+                    self.assertIn(node, called, f"{name}: line {node.lineno}")
+                if isinstance(node, ast.Name) and node.id in BUILTINS:
+                    self.assertIn(node, called, f"{name}: line {node.lineno}")
+
     def test_loops_and_targets(self):
         for name, node in nodes(ast.For, ast.While):
             self.assertEqual(node.orelse, [], f"{name}: line {node.lineno}")
@@ -117,6 +225,9 @@ class Code(unittest.TestCase):
         for name, node in nodes(ast.Call):
             if isinstance(node.func, ast.Attribute):
                 self.assertIn(node.func.attr, METHODS | own, f"{name}: line {node.lineno}")
+        for name, node in nodes(ast.Attribute):
+            self.assertNotIn(node.attr, NAMES_NOT_USED, f"{name}: line {node.lineno}")
+            self.assertFalse(node.attr.startswith("_"), f"{name}: line {node.lineno}")
         pythons = {attr for kind in (str, int, list, dict, set, bytes, tuple) for attr in dir(kind)}
         self.assertEqual(stored & pythons, set())
 
