@@ -27,11 +27,11 @@ WORDS_NOT_USED = re.compile(
 NAMES_NOT_USED = set("""register mro elements open input version_info with_traceback add_note attrgetter breakpoint
     builtins compile copyright credits delattr dir eval exec exit gc getattr globals hasattr help id importlib license
     locals methodcaller os quit setattr super vars sys chr print""".split())
-NODES = set("""Module Expr Assign AugAssign If While For Return Break Continue Pass Raise Try ExceptHandler FunctionDef
-    ClassDef ImportFrom alias arguments arg Name Attribute Subscript Slice Constant List Tuple Dict Set Call keyword
-    Lambda IfExp ListComp comprehension JoinedStr FormattedValue BinOp UnaryOp BoolOp Compare Load Store Add Sub Mult
-    FloorDiv Mod Pow LShift RShift BitOr BitXor BitAnd Invert Not USub UAdd And Or Eq NotEq Lt LtE Gt GtE Is IsNot In
-    NotIn""".split())
+# Errors, lambdas, f-strings and sets are not needed: where there are none, the rules on them hold.
+NODES = set("""Module Expr Assign AugAssign If While For Return Break Continue Pass FunctionDef ClassDef ImportFrom alias
+    arguments arg Name Attribute Subscript Slice Constant List Tuple Dict Call IfExp ListComp comprehension BinOp UnaryOp
+    BoolOp Compare Load Store Add Sub Mult FloorDiv Mod LShift RShift BitOr BitXor BitAnd Invert Not USub UAdd And Or Eq
+    NotEq Lt LtE Gt GtE Is IsNot In NotIn""".split())
 
 
 def nodes(*kinds):
@@ -71,6 +71,11 @@ class Files(unittest.TestCase):
             self.assertEqual(path.parent, FOLDER)
             self.assertRegex(path.name, r"^([a-z][a-z0-9_]*|__init__|__main__)\.py$")
             self.assertNotIn(path.stem, dir(builtins))
+
+    def test_names_that_no_file_has(self):
+        for path in FILES:
+            self.assertIsNone(WORDS_NOT_USED.search(path.stem))
+            self.assertNotRegex(path.stem, r"^(tests?|testing|test_.*|site|conftest|sitecustomize|usercustomize)$")
 
     def test_signs_and_sizes(self):
         for path in FILES:
@@ -151,6 +156,9 @@ class Code(unittest.TestCase):
             self.assertIsNone(node.returns)
             self.assertIsNone(node.args.vararg or node.args.kwarg)
             self.assertEqual(node.args.kwonlyargs + node.args.posonlyargs, [])
+            self.assertEqual(node.args.defaults, [], f"{name}: {node.name}")
+            within = [inner for inner in ast.walk(node) if isinstance(inner, ast.FunctionDef)]
+            self.assertEqual(within, [node], f"{name}: {node.name}")
             self.assertTrue(node.name in DUNDERS or not node.name.startswith("_"), f"{name}: {node.name}")
 
     def test_classes(self):
@@ -166,8 +174,7 @@ class Code(unittest.TestCase):
                     self.assertEqual(part.name, "__init__")
                     self.assertFalse([inner for inner in ast.walk(part) if isinstance(inner, ast.Return)])
 
-    def test_no_sets_and_no_powers(self):
-        self.assertEqual(nodes(ast.Set, ast.Pow), [])
+    def test_no_sets(self):
         for name, node in nodes(ast.Name):
             self.assertNotIn(node.id, ("set", "frozenset"), f"{name}: line {node.lineno}")
 
